@@ -1,0 +1,1 @@
+"""Tidemark: files on raw flash memory."""

@@ -1,0 +1,1 @@
+"""The contents of pages, and the octets they are written as."""
