@@ -10,6 +10,10 @@ FUNCTIONS = {
     "tidemark.pages.sums": ["page_sums(page)"],
     "tidemark.pages.contents": ["fits_page(content)", "content_body(content)"],
     "tidemark.pages.pages": ["write_page(content)", "read_page(page)"],
+    "tidemark.pages.digits": ["page_digits(reading)", "read_digits(text)"],
+    "tidemark.index.counting": ["nodes_counted(keys)", "pages_counted(keys)"],
+    "tidemark.index.loading": ["load_index(root, reading_of)"],
+    "tidemark.space.order": ["free_blocks(store)", "data_blocks(store)"],
 }
 
 CLASSES = {
@@ -25,6 +29,20 @@ CLASSES = {
         "erases(block)",
         "is_alive(block)",
         "switch_on()",
+        "copied()",
+    ],
+    ("tidemark.index.index", "Index()"): [
+        "put(key, address, octets)",
+        "drop(key)",
+        "find(key)",
+        "keys_sorted()",
+        "mark_block(block)",
+        "next_node()",
+        "write_node(level, number, address)",
+        "root_address()",
+        "unwritten_count()",
+        "node_addresses()",
+        "live_addresses()",
         "copied()",
     ],
 }

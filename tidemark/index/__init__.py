@@ -1,0 +1,1 @@
+"""The index of keys and the nodes above them."""

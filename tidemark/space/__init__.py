@@ -1,0 +1,1 @@
+"""The choice of blocks."""

@@ -1,0 +1,1 @@
+"""The store of values by keys on a chip."""
