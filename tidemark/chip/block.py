@@ -4,7 +4,7 @@ BLANK = ("blank",)
 DAMAGED = ("damaged",)
 SPOILT = ("spoilt",)
 
-ERASED_STATES = {"ok": BLANK, "fail": SPOILT, "during": ("half",)}
+ERASED_STATES = {"ok": ("blank",), "fail": ("spoilt",), "during": ("half",)}
 
 
 def is_unstable(state):

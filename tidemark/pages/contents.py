@@ -99,7 +99,7 @@ def _item_body(content):
     body.extend(number_row(key, 4))
     if value is None:
         return body + [0]
-    return body + [1, *number_row(len(value), 2), *value]
+    return body + [1] + number_row(len(value), 2) + list(value)
 
 
 def _node_body(content):

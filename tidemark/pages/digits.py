@@ -1,10 +1,10 @@
 """Readings as hexadecimal digits, and back."""
 
 from tidemark.errors import InvalidDigits
-from tidemark.pages.pages import PAGE_OCTETS, read_page, write_page
+from tidemark.pages.pages import read_page, write_page
 
 HEX_DIGITS = "0123456789abcdef"
-PAGE_DIGITS = 2 * PAGE_OCTETS
+PAGE_DIGITS = 1024
 
 
 def page_digits(reading):
