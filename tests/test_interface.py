@@ -13,7 +13,26 @@ FUNCTIONS = {
     "tidemark.pages.digits": ["page_digits(reading)", "read_digits(text)"],
     "tidemark.index.counting": ["nodes_counted(keys)", "pages_counted(keys)"],
     "tidemark.index.loading": ["load_index(root, reading_of)"],
+    "tidemark.space.limits": ["spare_blocks(blocks)", "block_share(blocks, pages)", "page_limit(blocks, pages)"],
     "tidemark.space.order": ["free_blocks(store)", "data_blocks(store)"],
+    "tidemark.space.victims": [
+        "leaves_written(store, changes, victims)",
+        "blocks_taken(store, changes, victims)",
+        "blocks_freed(store, changes, victims)",
+        "kept_blocks(store)",
+        "needed_blocks(store)",
+        "available_blocks(store)",
+        "victims_of(store, changes)",
+    ],
+    "tidemark.space.levelling": ["hot_blocks(store)", "move_wanted(store)", "anchor_wanted(store)"],
+    "tidemark.store.found": [
+        "standing_root(scan)",
+        "reading_of(scan, places, address)",
+        "counted_items(scan, root)",
+        "found_index(scan, root)",
+    ],
+    "tidemark.store.starting": ["format_chip(chip)", "mount_store(chip, settle)", "peek_values(chip, settle)"],
+    "tidemark.files.names": ["is_name(text)", "is_path(text)", "is_target(text)", "names_of(path)"],
 }
 
 CLASSES = {
@@ -44,6 +63,15 @@ CLASSES = {
         "node_addresses()",
         "live_addresses()",
         "copied()",
+    ],
+    ("tidemark.store.store", "Store(chip, home, root, index, position)"): [
+        "change(changes)",
+        "sync()",
+        "look(key)",
+        "keys_shown()",
+        "twin(chip)",
+        "is_worn()",
+        "is_current()",
     ],
 }
 

@@ -2,8 +2,9 @@
 
 import unittest
 
+from stores import bare_store, mounted, root_of, whole_store
+
 from tidemark.space.order import data_blocks, free_blocks
-from tidemark.store.pages import StorePages
 
 
 class Standin:
@@ -157,22 +158,31 @@ class DataBlocks(unittest.TestCase):
         self.assertEqual(repr(vars(store)), before)
 
 
-class Pages(unittest.TestCase):
-    """The part of a store that these points look at (points 42 and 43)."""
+class Stores(unittest.TestCase):
+    """Both points, asked with a store as a mount begins it."""
 
-    ROOT = ("root", 1, 1, None, (0, 1), (3, 2, 6) + (None,) * 21, (1, 0) + (4,) * 22, (5,))
+    def test_behind_a_format_and_a_mount(self):
+        store = mounted()
+        self.assertEqual(store.root, root_of(24, {2: 3, 3: 4}, number=2, epoch=2, journal=(2, 3), recorded={3: 2, 4: 2}))
+        self.assertEqual((free_blocks(store), data_blocks(store)), ([1, 2] + list(range(5, 24)), []))
 
-    def test_begins_with_the_root(self):
-        store = StorePages(7, self.ROOT)
-        self.assertEqual((store.root, store.home, store.anchor), (self.ROOT, 7, 7))
-        self.assertEqual(store.places, [3, 2, 6] + [None] * 21)
-        self.assertEqual(store.recorded, [1, 0] + [4] * 22)
-        self.assertEqual((store.bad, store.clean), ([5], []))
+    def test_bad_blocks_that_the_places_name(self):
+        places = {0: 3, 1: 2, 2: 6, 4: 9}
+        store = bare_store(places, home=7, recorded={0: 1, 1: 0, 4: 4, 8: 4}, bad=(5, 6))
+        self.assertEqual(free_blocks(store), [1, 0] + list(range(10, 24)) + [4, 8])
+        self.assertEqual(data_blocks(store), [4])
+        store.bad = [5]
+        self.assertEqual(data_blocks(store), [2, 4])
 
-    def test_order(self):
-        store = StorePages(7, self.ROOT)
-        self.assertEqual(free_blocks(store), [1, 0, 4] + list(range(8, 24)))
-        self.assertEqual(data_blocks(store), [2])
+    def test_clean_blocks_and_anchor(self):
+        store = bare_store()
+        store.clean = [20, 4]
+        store.anchor = 5
+        before = whole_store(store)
+        free_blocks(store).clear()
+        data_blocks(store).clear()
+        self.assertEqual(whole_store(store), before)
+        self.assertEqual(free_blocks(store), [3] + list(range(6, 20)) + [21, 22, 23])
 
 
 if __name__ == "__main__":

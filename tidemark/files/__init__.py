@@ -1,0 +1,1 @@
+"""The tree of files."""
