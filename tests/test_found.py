@@ -149,6 +149,8 @@ class Items(unittest.TestCase):
     def test_pages_that_are_passed_over(self):
         others = [DAMAGED, right(("mark", 9)), BLANK, self.item(1, epoch=2), self.item(1, epoch=4), self.item(3)]
         others += [self.item(0), right(("node", 0, ((0, 0),) * 32)), right(self.ROOT)]
+        # Its number and epoch are those of an epoch and an index.
+        others += [right(root_of(24, {0: 1}, number=3, epoch=1)), right(root_of(24, {0: 1}, number=3, epoch=2))]
         for other in others:
             self.assertEqual(self.counted([other, self.item(1), DAMAGED]), [(0, 1)], other)
             self.assertEqual(self.counted([self.item(1, False), other, self.item(2), DAMAGED])[1:], [(0, 2)], other)

@@ -32,6 +32,20 @@ FUNCTIONS = {
         "found_index(scan, root)",
     ],
     "tidemark.store.starting": ["format_chip(chip)", "mount_store(chip, settle)", "peek_values(chip, settle)"],
+    "tidemark.files.walking": [
+        "follow(tree, path)",
+        "place_of(tree, path)",
+        "entry_of(tree, path)",
+        "names_to(tree, number)",
+    ],
+    "tidemark.files.operations": ["check_operation(operation)", "make_operation(tree, operation)"],
+    "tidemark.files.values": [
+        "node_values(number, node)",
+        "tree_values(tree)",
+        "tree_of(values)",
+        "changes_between(before, after)",
+        "settle(values)",
+    ],
     "tidemark.files.names": ["is_name(text)", "is_path(text)", "is_target(text)", "names_of(path)"],
 }
 
@@ -73,7 +87,47 @@ CLASSES = {
         "is_worn()",
         "is_current()",
     ],
+    ("tidemark.files.node", "Node(kind, body, *, links=1)"): [
+        "measure()",
+        "with_body(body)",
+        "with_links(links)",
+        "__eq__(other)",
+    ],
+    ("tidemark.files.tree", "FileTree()"): ["copied()", "is_open(number)", "entry(directory, name)"],
+    ("tidemark.volume.volume", "Volume(store, tree, shape)"): [
+        "mkdir(path)",
+        "rmdir(path)",
+        "write(path, offset, octets)",
+        "read(path, offset, length)",
+        "truncate(path, length)",
+        "rename(source, target)",
+        "link(source, target)",
+        "unlink(path)",
+        "symlink(target, path)",
+        "readlink(path)",
+        "readdir(path)",
+        "stat(path)",
+        "lstat(path)",
+        "open_file(path)",
+        "close_file(handle)",
+        "read_at(handle, offset, length)",
+        "write_at(handle, offset, octets)",
+        "resize(handle, length)",
+        "stat_at(handle)",
+        "perform(operation)",
+        "carry_out(operation)",
+        "batch(operations)",
+        "sync()",
+        "check_writable()",
+        "room()",
+        "wear()",
+        "tree_now()",
+        "accepted_changes()",
+        "synced_count()",
+    ],
 }
+
+PROPERTIES = {("tidemark.volume.volume", "Volume"): ["is_up", "is_read_only"]}
 
 
 def shown(called):
@@ -99,6 +153,12 @@ class Interface(unittest.TestCase):
             self.assertEqual((found.__module__, shown(found)), (module, line))
             for method in methods:
                 self.assertEqual(method_shown(found, method.split("(")[0]), method)
+
+    def test_properties(self):
+        for (module, name), properties in PROPERTIES.items():
+            owner = getattr(importlib.import_module(module), name)
+            for word in properties:
+                self.assertIsInstance(vars(owner)[word], property)
 
 
 if __name__ == "__main__":

@@ -387,6 +387,7 @@ class Twins(unittest.TestCase):
         store.anchor = 12
         store.position = 8
         store.head = (7, 3)
+        store.places[7] = 19
         return store
 
     def test_same_state(self):

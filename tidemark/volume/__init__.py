@@ -1,0 +1,1 @@
+"""Volumes: trees of files on chips."""
