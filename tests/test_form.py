@@ -205,7 +205,7 @@ class Names(unittest.TestCase):
 class Statements(unittest.TestCase):
     """L3, L4, L6, L7 and L19."""
 
-    BARRED = (ast.AsyncFunctionDef, ast.AsyncFor, ast.AsyncWith, ast.Await, ast.Global)
+    BARRED = (ast.AsyncFunctionDef, ast.AsyncFor, ast.AsyncWith, ast.Await, ast.Global, ast.GeneratorExp, ast.Yield)
 
     def test_parts_that_do_not_occur(self):
         for name, tree in parsed_files().items():

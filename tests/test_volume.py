@@ -393,13 +393,14 @@ class Accepting(unittest.TestCase):
         accepted.clear()
         volume.tree_now().nodes.clear()
         volume.tree_now().handles.clear()
+        recorded = list(store.recorded)
         erases, bad = volume.wear()
         erases.clear()
         bad.append(3)
         self.assertEqual(len(volume.accepted_changes()[0]), 4)
         self.assertEqual(volume.readdir("/"), ["d", "f", "l"])
         self.assertEqual(volume.stat_at(0), ("file", 1, 1, 3))
-        self.assertEqual(volume.wear(), (store.recorded, []))
+        self.assertEqual(volume.wear(), (recorded, []))
 
     def test_room_and_wear(self):
         store, volume = some_volume(32, 16)

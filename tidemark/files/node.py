@@ -10,9 +10,12 @@ class Node:
         self.links = links
 
     def __eq__(self, other):
-        if not isinstance(other, Node):
-            return False
-        return self.kind == other.kind and self.links == other.links and self.body == other.body
+        return (
+            isinstance(other, Node)
+            and self.kind == other.kind
+            and self.body == other.body
+            and self.links == other.links
+        )
 
     def measure(self):
         """Return the number of octets, of entries, or of characters of the target."""

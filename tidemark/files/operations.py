@@ -1,7 +1,7 @@
 """The operations on a tree of files."""
 
 from tidemark.errors import IsDirectory, NotDirectory, NotEmpty, NotFound, NotLink, NotOpen, TooManyOpen, WithinItself
-from tidemark.files.arguments import check_handle, check_length, check_octets, check_offset, check_path, check_target
+from tidemark.files.arguments import check_argument
 from tidemark.files.entries import (
     check_new_entry,
     check_room,
@@ -60,15 +60,6 @@ ARGUMENTS = {
     "write_at": ("handle", "offset", "octets"),
     "resize": ("handle", "length"),
     "stat_at": ("handle",),
-}
-
-CHECKS = {
-    "path": check_path,
-    "target": check_target,
-    "offset": check_offset,
-    "length": check_length,
-    "octets": check_octets,
-    "handle": check_handle,
 }
 
 
@@ -155,14 +146,14 @@ def _readdir(tree, path):
 
 
 def _stat(tree, path):
-    return status_of(tree, follow(tree, path))
+    return _status_of(tree, follow(tree, path))
 
 
 def _lstat(tree, path):
     if not names_of(path):
-        return status_of(tree, ROOT)
+        return _status_of(tree, ROOT)
     _, _, number = entry_of(tree, path)
-    return status_of(tree, number)
+    return _status_of(tree, number)
 
 
 def _open_file(tree, path):
@@ -193,10 +184,10 @@ def _resize(tree, handle, length):
 
 
 def _stat_at(tree, handle):
-    return status_of(tree, _file_of(tree, handle))
+    return _status_of(tree, _file_of(tree, handle))
 
 
-def status_of(tree, number):
+def _status_of(tree, number):
     """Return the kind, the number, the count of names and the length of a node."""
     node = tree.nodes[number]
     return node.kind, number, node.links, node.measure()
@@ -290,8 +281,7 @@ def check_operation(operation):
     """Raise the error of the first wrong argument of an operation."""
     kinds = ARGUMENTS[operation[0]]
     for kind, argument in zip(kinds, operation[1:]):
-        check = CHECKS[kind]
-        check(argument)
+        check_argument(kind, argument)
 
 
 def make_operation(tree, operation):

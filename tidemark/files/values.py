@@ -40,7 +40,7 @@ def tree_values(tree):
 def tree_of(values):
     """Return the tree whose values these are."""
     tree = FileTree()
-    numbers = [key // NODE_KEYS for key in sorted(values) if key % NODE_KEYS == 0]
+    numbers = [key // NODE_KEYS for key in values if key % NODE_KEYS == 0]
     tree.nodes = {number: _node_of(values, NODE_KEYS * number) for number in numbers}
     return tree
 
@@ -88,7 +88,7 @@ def _without_zeros(octets):
     # Most zeros stand in whole chunks of zeros, which need no look at each octet.
     if octets == (0,) * end:
         return ()
-    while end > 0 and octets[end - 1] == 0:
+    while octets[end - 1] == 0:
         end -= 1
     return octets[:end]
 

@@ -34,7 +34,7 @@ def entry_of(tree, path):
 
 def names_to(tree, number):
     """Return the names that lead from the root to a directory, without links."""
-    above = _directories_above(tree)
+    above = _entries_above(tree)
     names = []
     reached = number
     while reached in above:
@@ -45,7 +45,7 @@ def names_to(tree, number):
 
 def lies_within(tree, number, top):
     """Return True if a directory is another one or lies below it."""
-    above = _directories_above(tree)
+    above = _entries_above(tree)
     reached = number
     while reached != top and reached in above:
         reached = above[reached][0]
@@ -81,12 +81,11 @@ def _entry_with(tree, directory, name):
     return number
 
 
-def _directories_above(tree):
-    """Return, for each directory but the root, the directory of its entry and its name there."""
+def _entries_above(tree):
+    """Return, for each node that an entry leads to, the directory and the name of such an entry."""
     above = {}
     for number, node in tree.nodes.items():
         entries = node.body if node.kind == "directory" else ()
         for name, below in entries:
-            if tree.nodes[below].kind == "directory":
-                above[below] = (number, name)
+            above[below] = (number, name)
     return above
