@@ -48,7 +48,8 @@ def peek_values(chip, settle):
     _, root, index = _found(scan)
     _make_items(index, scan, root)
     values = _index_values(index)
-    for key, value in settle(dict(values)):
+    changes = settle(dict(values))
+    for key, value in changes:
         if value is None:
             values.pop(key, None)
         else:
