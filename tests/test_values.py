@@ -190,6 +190,10 @@ class Settling(unittest.TestCase):
         values = {key: value for key, value in tree_values(tree).items() if (key, None) not in changes}
         self.assertEqual(sorted(tree_of(values).nodes), [0, 2])
 
+    def test_ascending_order(self):
+        values = {8193: (1,), 8192: (1, 0, 0, 0, 0, 1), 4097: (1,), 4096: (1, 0, 0, 0, 0, 1), 0: ROOT}
+        self.assertEqual(settle(values), [(key, None) for key in (4096, 4097, 8192, 8193)])
+
 
 if __name__ == "__main__":
     unittest.main()
