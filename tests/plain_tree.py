@@ -44,16 +44,22 @@ class PlainTree:
             found[number] = (kind, shown, links)
         return found, list(self.handles)
 
-    def make(self, operation):
+    def copied(self):
+        found = PlainTree()
+        found.nodes = {number: [kind, copy.copy(body), links] for number, (kind, body, links) in self.nodes.items()}
+        found.handles = list(self.handles)
+        return found
+
+    def make(self, operation, checked=True):
         """The result of an operation; nothing changes if it is refused."""
-        saved = {number: [kind, copy.copy(body), links] for number, (kind, body, links) in self.nodes.items()}
-        handles = list(self.handles)
+        saved = self.copied()
         try:
-            self.check(operation)
+            if checked:
+                self.check(operation)
             return getattr(self, "do_" + operation[0])(*operation[1:])
         except Refused:
-            self.nodes = saved
-            self.handles = handles
+            self.nodes = saved.nodes
+            self.handles = saved.handles
             raise
 
     def check(self, operation):

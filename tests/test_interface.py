@@ -1,4 +1,4 @@
-"""The names and arguments of the interface, for the modules that stand so far."""
+"""The names and arguments of the interface."""
 
 import importlib
 import inspect
@@ -46,6 +46,19 @@ FUNCTIONS = {
         "changes_between(before, after)",
         "settle(values)",
     ],
+    "tidemark.volume.mounting": ["format_flash(chip)", "mount_flash(chip)", "peek_flash(chip)"],
+    "tidemark.tools.listing": ["list_tree(tree, path)", "ways_from(tree, number)"],
+    "tidemark.tools.usage": ["usage(tree, path)"],
+    "tidemark.tools.patterns": ["is_pattern(text)", "matches(pattern, name)", "search(tree, path, pattern)"],
+    "tidemark.tools.comparing": ["differences(tree, path, *, other, other_path)"],
+    "tidemark.tools.removing": ["removals(tree, path)", "remove_tree(volume, path)"],
+    "tidemark.tools.calls": ["make_call(volume, call)"],
+    "tidemark.tools.copying": ["copies(tree, source, target)", "copy_tree(volume, source, target)"],
+    "tidemark.inspector.defects": ["root_defects(scan, block, root)", "index_defects(scan, block, root)"],
+    "tidemark.inspector.inspecting": ["inspect_scan(scan)", "inspect_flash(chip)"],
+    "tidemark.inspector.describing": ["describe(digits)"],
+    "tidemark.explorer.explore": ["explore(chip, calls)"],
+    "tidemark.explorer.lifetime": ["lifetime(chip, endurance)"],
     "tidemark.files.names": ["is_name(text)", "is_path(text)", "is_target(text)", "names_of(path)"],
 }
 
@@ -93,6 +106,7 @@ CLASSES = {
         "with_links(links)",
         "__eq__(other)",
     ],
+    ("tidemark.inspector.inspecting", "Report(defects, volume, pages)"): [],
     ("tidemark.files.tree", "FileTree()"): ["copied()", "is_open(number)", "entry(directory, name)"],
     ("tidemark.volume.volume", "Volume(store, tree, shape)"): [
         "mkdir(path)",

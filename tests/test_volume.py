@@ -5,11 +5,11 @@ import unittest
 from samples import whole
 from stores import Numbers
 from trees import DrawnOperations, full_directory, told, word_of_call
-from volumes import new_volume, read_only, run_out, state_of, volume_on
+from volumes import new_volume, prefixes, read_only, run_out, state_of, volume_on
 
 from tidemark.errors import NoSpace, PowerCut, ReadOnly, TidemarkError, VolumeDown, WornOut
 from tidemark.files.tree import FileTree
-from tidemark.files.values import changes_between, settle, tree_of, tree_values
+from tidemark.files.values import changes_between, tree_of, tree_values
 from tidemark.index.counting import pages_counted
 from tidemark.space.limits import page_limit
 from tidemark.store.starting import format_chip
@@ -437,18 +437,6 @@ class Accepting(unittest.TestCase):
 class Promise(unittest.TestCase):
     """Points 2 and 84: what the next mount shows behind cuts."""
 
-    def settled(self, values):
-        found = {**values, **dict(settle(values))}
-        return {key: value for key, value in found.items() if value is not None}
-
-    def prefixes(self, start, volume):
-        """The values that each prefix of the accepted changes makes, from those on that were synced."""
-        found = [start]
-        for changes in volume.accepted_changes():
-            values = {**found[-1], **dict(changes)}
-            found.append({key: value for key, value in values.items() if value is not None})
-        return [self.settled(values) for values in found[volume.synced_count() :]]
-
     def test_runs_with_cuts(self):
         cuts = 0
         for seed in range(12):
@@ -464,7 +452,7 @@ class Promise(unittest.TestCase):
                     store.chip.plan([], [])
                     continue
                 cuts += 1
-                accepted = self.prefixes(start, volume)
+                accepted = prefixes(start, volume)
                 store, volume = volume_on(store.chip)
                 start = tree_values(volume.tree_now())
                 self.assertIn(start, accepted)

@@ -30,5 +30,10 @@ def names_of(path):
     return [name for name in path.split("/") if name != ""]
 
 
+def path_with(names):
+    """Return the absolute path of these names, also if it is longer than an argument may be."""
+    return "/" + "/".join(names)
+
+
 def _are_names(texts):
     return len(texts) <= MOST_NAMES and all([is_name(text) for text in texts])

@@ -21,6 +21,10 @@ class Node:
         """Return the number of octets, of entries, or of characters of the target."""
         return len(self.body)
 
+    def entries(self):
+        """Return the pairs of the names and numbers in a directory; other nodes have none."""
+        return self.body if self.kind == "directory" else ()
+
     def with_body(self, body):
         """Return a node that differs in its body only."""
         return Node(self.kind, body, links=self.links)

@@ -146,14 +146,14 @@ def _readdir(tree, path):
 
 
 def _stat(tree, path):
-    return _status_of(tree, follow(tree, path))
+    return status_of(tree, follow(tree, path))
 
 
 def _lstat(tree, path):
     if not names_of(path):
-        return _status_of(tree, ROOT)
+        return status_of(tree, ROOT)
     _, _, number = entry_of(tree, path)
-    return _status_of(tree, number)
+    return status_of(tree, number)
 
 
 def _open_file(tree, path):
@@ -184,10 +184,10 @@ def _resize(tree, handle, length):
 
 
 def _stat_at(tree, handle):
-    return _status_of(tree, _file_of(tree, handle))
+    return status_of(tree, _file_of(tree, handle))
 
 
-def _status_of(tree, number):
+def status_of(tree, number):
     """Return the kind, the number, the count of names and the length of a node."""
     node = tree.nodes[number]
     return node.kind, number, node.links, node.measure()

@@ -85,7 +85,6 @@ def _entries_above(tree):
     """Return, for each node that an entry leads to, the directory and the name of such an entry."""
     above = {}
     for number, node in tree.nodes.items():
-        entries = node.body if node.kind == "directory" else ()
-        for name, below in entries:
+        for name, below in node.entries():
             above[below] = (number, name)
     return above

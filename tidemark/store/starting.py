@@ -2,6 +2,7 @@
 
 from tidemark.errors import NoVolume, WornOut
 from tidemark.space.limits import spare_blocks
+from tidemark.store.changes import changed_values
 from tidemark.store.commits import commit
 from tidemark.store.found import counted_items, found_index, standing_root
 from tidemark.store.journal import make_item
@@ -48,13 +49,7 @@ def peek_values(chip, settle):
     _, root, index = _found(scan)
     _make_items(index, scan, root)
     values = _index_values(index)
-    changes = settle(dict(values))
-    for key, value in changes:
-        if value is None:
-            values.pop(key, None)
-        else:
-            values[key] = value
-    return values
+    return changed_values(values, settle(dict(values)))
 
 
 def _begin(chip):

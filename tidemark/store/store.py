@@ -54,6 +54,10 @@ class Store:
         unchanged = [key for key in self.index.keys_sorted() if key not in self.buffer]
         return sorted(changed + unchanged)
 
+    def values_shown(self):
+        """Return a dict of the values of the keys that have values."""
+        return {key: self.look(key) for key in self.keys_shown()}
+
     def twin(self, chip):
         """Return a store of its own in the same state, on a copy of the chip."""
         second = Store(chip, self.home, self.root, self.index.copied(), self.position)

@@ -1,0 +1,1 @@
+"""Power cuts explored, and the lifetimes of chips."""

@@ -1,0 +1,1 @@
+"""What the pages of a chip tell, and their defects."""

@@ -1,0 +1,1 @@
+"""Tools on trees of files."""
