@@ -29,6 +29,7 @@ class Calls(unittest.TestCase):
         self.assertEqual(word_of_call(make_call, volume, ("remove_tree", "d")), "invalidpath")
         self.assertEqual(word_of_call(make_call, volume, ("copy_tree", "/d", "d")), "invalidpath")
         self.assertEqual(word_of_call(make_call, volume, ("batch", [])), "invalidbatch")
+        self.assertEqual(word_of_call(make_call, volume, ("stat", "sync")), "invalidpath")
 
     def test_sync(self):
         _, volume = some_volume()

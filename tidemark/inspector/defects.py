@@ -89,5 +89,8 @@ def _word_of_leaf(content, key):
 def _named_below(node, level, number):
     """Return the levels, the numbers and the addresses of what a node names."""
     _, _, children = node
-    named = zip(child_numbers(number), children)
-    return [(level - 1, child, address) for child, address in named if address is not None]
+    return [
+        (level - 1, child, address)
+        for child, address in zip(child_numbers(number), children)
+        if address is not None
+    ]
